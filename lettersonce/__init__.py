@@ -1,0 +1,1 @@
+"""LettersOnce: rooms of letters with one history."""

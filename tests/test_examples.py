@@ -1,0 +1,111 @@
+"""The examples of the interface, word for word."""
+
+import doctest
+import unittest
+
+NAMES = """
+>>> from lettersonce.names import is_name, is_ref, is_text, is_title
+>>> is_name("bert7"), is_name("7bert"), is_name("Bert")
+(True, False, False)
+>>> is_ref(("anna", 3)), is_ref(["anna", 3]), is_ref(("anna", True))
+(True, False, False)
+>>> is_text(""), is_title(""), is_text("a\\nb"), is_title("a\\nb")
+(False, True, True, False)
+"""
+
+BODIES = """
+>>> from lettersonce.bodies import is_act, is_body, target, text_of
+>>> is_body(("found", "Tea", ("bert", "carl"))), is_body(("found", "Tea", ("carl", "bert"))), is_body(("found", "Tea", ()))
+(True, False, True)
+>>> is_body(("say", "hello")), is_body(("say",)), is_body(["say", "hello"])
+(True, False, False)
+>>> target(("reply", ("anna", 2), "yes")), text_of(("reply", ("anna", 2), "yes")), is_act(("add", "bert"))
+(('anna', 2), 'yes', True)
+"""
+
+LETTERS = """
+>>> from lettersonce.letters import Letter, by_key, is_letter
+>>> letter = Letter("bert", 2, 5, (("anna", 4), ("bert", 2)), ("say", "hello"))
+>>> letter.ref, letter.key, letter.count("anna"), letter.count("carl")
+(('bert', 2), (5, 'bert'), 4, 0)
+>>> letter.has_seen(("anna", 4)), letter.has_seen(("anna", 5)), letter.has_seen(("carl", 1))
+(True, False, False)
+>>> is_letter(letter.value()), is_letter(("anna", 1, 1, (("anna", 1),), ("say", "hello")))
+(True, False)
+>>> other = Letter("anna", 4, 5, (("anna", 4),), ("seen",))
+>>> [row.ref for row in by_key([letter, other])]
+[('anna', 4), ('bert', 2)]
+"""
+
+FOLDING = """
+>>> from lettersonce.folding import fold, unfold
+>>> fold("one two three", 7)
+['one two', ' three']
+>>> fold("Title: abcdefghij k", 5)
+['Title:', ' abcdefghij', ' k']
+>>> unfold(["Title:", " abcdefghij", " k", "Kind: seen"])
+['Title: abcdefghij k', 'Kind: seen']
+"""
+
+HEADERS = """
+>>> from lettersonce.headers import header_lines
+>>> from lettersonce.letters import Letter
+>>> header_lines(Letter("bert", 2, 5, (("anna", 4), ("bert", 2)), ("reply", ("anna", 3), "one\\ntwo")))
+['From: bert 2', 'Stamp: 5', 'Seen: anna 4, bert 2', 'Kind: reply', 'Ref: anna 3', 'Lines: 2']
+"""
+
+MAIL = """
+>>> from lettersonce.letters import Letter
+>>> from lettersonce.mail import mail_lines, read_mail
+>>> letter = Letter("bert", 2, 5, (("anna", 4), ("bert", 2)), ("say", "hello\\n."))
+>>> mail_lines(letter)
+['From: bert 2', 'Stamp: 5', 'Seen: anna 4, bert 2', 'Kind: say', 'Lines: 2', '', '|hello', '|.', '.']
+>>> lines = ["From:", " bert 2"] + mail_lines(letter)[1:] + ["From: nobody"]
+>>> read, index = read_mail(lines, 0)
+>>> read.value() == letter.value(), index
+(True, 10)
+"""
+
+ARCHIVE = """
+>>> from lettersonce.archive import archive, read_beginning
+>>> from lettersonce.letters import Letter
+>>> letter = Letter("bert", 2, 5, (("anna", 4), ("bert", 2)), ("say", "hello"))
+>>> text = archive([letter])
+>>> letters, length = read_beginning(text + "From: anna 1\\nStamp: 1")
+>>> [row.ref for row in letters], length, len(text)
+([('bert', 2)], 72, 72)
+"""
+
+
+class Examples(unittest.TestCase):
+    def assert_holds(self, text):
+        example = doctest.DocTestParser().get_doctest(text, {}, "example", None, None)
+        told = []
+        results = doctest.DocTestRunner(verbose=False).run(example, out=told.append)
+        self.assertEqual(results.failed, 0, "".join(told))
+        self.assertEqual(results.attempted, text.count(">>> "))
+
+    def test_names(self):
+        self.assert_holds(NAMES)
+
+    def test_bodies(self):
+        self.assert_holds(BODIES)
+
+    def test_letters(self):
+        self.assert_holds(LETTERS)
+
+    def test_folding(self):
+        self.assert_holds(FOLDING)
+
+    def test_headers(self):
+        self.assert_holds(HEADERS)
+
+    def test_mail(self):
+        self.assert_holds(MAIL)
+
+    def test_archive(self):
+        self.assert_holds(ARCHIVE)
+
+
+if __name__ == "__main__":
+    unittest.main()

@@ -1,0 +1,71 @@
+"""Each name of the interface stands in its file, with its arguments."""
+
+import ast
+import importlib
+import inspect
+import pathlib
+import unittest
+
+PACKAGE = pathlib.Path(__file__).resolve().parent.parent / "lettersonce"
+FUNCTIONS = {
+    "names": {"is_name": ["thing"], "is_number": ["thing"], "is_text": ["thing"], "is_title": ["thing"],
+              "is_ref": ["thing"], "is_room": ["thing"]},
+    "bodies": {"is_body": ["thing"], "is_act": ["body"], "target": ["body"], "text_of": ["body"]},
+    "letters": {"is_letter": ["thing"], "by_key": ["letters"]},
+    "folding": {"fold": ["line", "width"], "unfold": ["lines"]},
+    "headers": {"header_lines": ["letter"], "read_headers": ["lines", "text"]},
+    "mail": {"mail_lines": ["letter"], "read_mail": ["lines", "at"]},
+    "archive": {"archive": ["letters"], "read_archive": ["text"], "read_beginning": ["text"]},
+}
+CLASSES = {
+    "errors": {name: {} for name in ["RoomError", "BadBody", "BadLetter", "BadMail", "BadValue", "Contradiction", "Down",
+                                     "Exists", "NotKeeper", "NotMember", "Unknown"]},
+    "letters": {"Letter": {"__init__": ["self", "author", "number", "stamp", "seen", "body"], "ref": ["self"],
+                           "key": ["self"], "count": ["self", "name"], "has_seen": ["self", "ref"], "value": ["self"],
+                           "from_value": ["value"]}},
+}
+DECORATORS = {"ref": "property", "key": "property", "from_value": "staticmethod"}
+
+
+def definitions(nodes, kind):
+    return {node.name: node for node in nodes if isinstance(node, kind)}
+
+
+def arguments(node):
+    return [argument.arg for argument in node.args.posonlyargs + node.args.args]
+
+
+class Interface(unittest.TestCase):
+    def tree(self, module):
+        return ast.parse((PACKAGE / f"{module}.py").read_text(encoding="utf-8"))
+
+    def test_functions(self):
+        for module, functions in FUNCTIONS.items():
+            defined = definitions(self.tree(module).body, ast.FunctionDef)
+            for name, expected in functions.items():
+                with self.subTest(f"{module}.{name}"):
+                    self.assertIn(name, defined)
+                    self.assertEqual(arguments(defined[name]), expected)
+                    called = getattr(importlib.import_module(f"lettersonce.{module}"), name)
+                    self.assertEqual(list(inspect.signature(called).parameters), expected)
+
+    def test_classes_and_their_methods(self):
+        for module, classes in CLASSES.items():
+            defined = definitions(self.tree(module).body, ast.ClassDef)
+            for name, methods in classes.items():
+                self.assertIn(name, defined)
+                own = definitions(defined[name].body, ast.FunctionDef)
+                for method, expected in methods.items():
+                    with self.subTest(f"{module}.{name}.{method}"):
+                        self.assertIn(method, own)
+                        self.assertEqual(arguments(own[method]), expected)
+                        decorators = [decorator.id for decorator in own[method].decorator_list]
+                        self.assertEqual(decorators, [DECORATORS[method]] if method in DECORATORS else [])
+
+    def test_the_width(self):
+        assigned = [node.targets[0].id for node in self.tree("folding").body if isinstance(node, ast.Assign)]
+        self.assertIn("WIDTH", assigned)
+
+
+if __name__ == "__main__":
+    unittest.main()

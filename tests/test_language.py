@@ -1,0 +1,157 @@
+"""Those rules for the language of the package that are easily looked up in its code."""
+
+import ast
+import pathlib
+import re
+import unittest
+
+PACKAGE = pathlib.Path(__file__).resolve().parent.parent / "lettersonce"
+BUILTINS = """len range enumerate zip min max sum abs sorted reversed int str bool list tuple dict set isinstance ord repr any
+all divmod ValueError TypeError KeyError IndexError LookupError type property staticmethod classmethod""".split()
+EVERY_BUILTIN = set(dir(__import__("builtins")))
+STATEMENTS = (ast.FunctionDef, ast.ClassDef, ast.Assign, ast.AugAssign, ast.If, ast.While, ast.For, ast.Return, ast.Break,
+              ast.Continue, ast.Pass, ast.Raise, ast.Assert, ast.Delete, ast.Try, ast.Expr, ast.ImportFrom)
+BARRED = """register mro elements open input law version_info with_traceback add_note attrgetter breakpoint builtins compile
+copyright credits delattr dir eval exec exit gc getattr globals hasattr help id importlib license locals methodcaller os quit
+setattr super vars sys map filter format print iter next round hash""".split()
+
+
+def names_of(tree):
+    """Return the names that are read, assigned, defined or passed by, attributes not among them."""
+    names = []
+    for node in ast.walk(tree):
+        if isinstance(node, ast.Name):
+            names.append(node.id)
+        if isinstance(node, (ast.FunctionDef, ast.ClassDef)):
+            names.append(node.name)
+        if isinstance(node, (ast.arg, ast.keyword)):
+            names.append(node.arg)
+        if isinstance(node, ast.alias):
+            names.append(node.asname or node.name)
+    return names
+
+
+def bound_inside(function):
+    """Return the parameters and local variables of a function."""
+    names = [node.arg for node in ast.walk(function) if isinstance(node, ast.arg)]
+    return names + [node.id for node in ast.walk(function) if isinstance(node, ast.Name) and isinstance(node.ctx, ast.Store)]
+
+
+class Language(unittest.TestCase):
+    def setUp(self):
+        self.texts = {path.name: path.read_bytes().decode("utf-8") for path in sorted(PACKAGE.glob("*.py"))}
+        self.trees = {name: ast.parse(text) for name, text in self.texts.items()}
+
+    def assert_nowhere(self, found):
+        self.assertEqual(list(found), [])
+
+    def test_the_folder_has_nothing_but_files_of_code(self):
+        for path in PACKAGE.iterdir():
+            if path.name != "__pycache__":
+                self.assertRegex(path.name, "^[a-z0-9_]+[.]py$")
+        self.assertIn("__init__.py", self.texts)
+
+    def test_characters_and_sizes(self):
+        for name, text in self.texts.items():
+            with self.subTest(name):
+                self.assertRegex(text, r"\A[\n -~]*\Z")
+                self.assertLessEqual(len(text.split("\n")), 399)
+                self.assertLessEqual(max([len(line) for line in text.split("\n")]), 120)
+                self.assertTrue(text.endswith("\n"))
+
+    def test_functions_have_at_most_40_lines(self):
+        for name, tree in self.trees.items():
+            self.assert_nowhere([(name, node.name) for node in ast.walk(tree) if isinstance(node, ast.FunctionDef)
+                                 and node.end_lineno - node.lineno >= 40])
+
+    def test_statements(self):
+        for name, tree in self.trees.items():
+            self.assert_nowhere([(name, node.lineno) for node in ast.walk(tree) if isinstance(node, ast.stmt)
+                                 and not isinstance(node, STATEMENTS)])
+
+    def test_imports_come_from_the_file_that_defines_the_name(self):
+        for name, tree in self.trees.items():
+            for node in ast.walk(tree):
+                self.assertNotIsInstance(node, ast.Import)
+                if isinstance(node, ast.ImportFrom):
+                    with self.subTest(f"{name}: {node.module}"):
+                        self.assertIn(node, tree.body)
+                        self.assertEqual(node.level, 0)
+                        package, _, module = node.module.partition(".")
+                        self.assertEqual(package, "lettersonce")
+                        other = self.trees[module + ".py"].body
+                        defined = [part.name for part in other if isinstance(part, (ast.FunctionDef, ast.ClassDef))]
+                        defined += [part.targets[0].id for part in other if isinstance(part, ast.Assign)]
+                        for alias in node.names:
+                            self.assertIn(alias.name, defined)
+                            self.assertIsNone(alias.asname)
+
+    def test_no_two_files_import_from_each_other(self):
+        imported = {name[:-3]: [node.module.partition(".")[2] for node in tree.body if isinstance(node, ast.ImportFrom)]
+                    for name, tree in self.trees.items()}
+        while imported:
+            free = [name for name, others in imported.items() if not any([other in imported for other in others])]
+            self.assertTrue(free, imported)
+            imported = {name: others for name, others in imported.items() if name not in free}
+
+    def test_module_level(self):
+        for name, tree in self.trees.items():
+            for node in tree.body:
+                with self.subTest(f"{name}, line {node.lineno}"):
+                    self.assertIsInstance(node, (ast.Expr, ast.ImportFrom, ast.FunctionDef, ast.ClassDef, ast.Assign))
+                    if isinstance(node, ast.Expr):
+                        self.assertIs(type(node.value.value), str)
+                    if isinstance(node, ast.Assign):
+                        self.assert_nowhere([call for call in ast.walk(node) if isinstance(call, (ast.Call, ast.ListComp))])
+
+    def test_builtins(self):
+        for name, tree in self.trees.items():
+            used = [word for word in names_of(tree) if word in EVERY_BUILTIN and word not in BUILTINS]
+            self.assert_nowhere([(name, word) for word in used])
+            self.assert_nowhere([(name, word) for word in names_of(tree) if word in BARRED])
+
+    def test_names(self):
+        for name, tree in self.trees.items():
+            for word in names_of(tree):
+                self.assertRegex(word, "^(_|_?[a-zA-Z][a-zA-Z0-9_]*|__init__)$", name)
+            self.assert_nowhere([(name, node.attr) for node in ast.walk(tree) if isinstance(node, ast.Attribute)
+                                 and not re.fullmatch("_?[a-z][a-z0-9_]*", node.attr)])
+
+    def test_nothing_inside_a_function_hides_another_name(self):
+        for name, tree in self.trees.items():
+            taken = EVERY_BUILTIN | {alias.name for node in tree.body if isinstance(node, ast.ImportFrom)
+                                     for alias in node.names}
+            taken |= {node.name for node in tree.body if isinstance(node, (ast.ClassDef, ast.FunctionDef))}
+            for function in [node for node in ast.walk(tree) if isinstance(node, ast.FunctionDef)]:
+                self.assert_nowhere([(name, function.name, word) for word in bound_inside(function) if word in taken])
+
+    def test_signs_that_are_not_used(self):
+        for name, tree in self.trees.items():
+            for node in ast.walk(tree):
+                with self.subTest(f"{name}, line {getattr(node, 'lineno', '')}"):
+                    self.assertNotIsInstance(node, (ast.Div, ast.Await, ast.GeneratorExp, ast.NamedExpr))
+                    if isinstance(node, ast.Constant):
+                        self.assertNotIsInstance(node.value, (float, complex))
+                        self.assertNotIn("%", str(node.value))
+                    if isinstance(node, ast.Compare) and isinstance(node.ops[0], (ast.Is, ast.IsNot)):
+                        self.assertIn(node.comparators[0].value, (None, True, False))
+
+    def test_handlers_name_errors_of_the_package(self):
+        own = [node.name for node in self.trees["errors.py"].body if isinstance(node, ast.ClassDef)]
+        for name, tree in self.trees.items():
+            for node in ast.walk(tree):
+                if isinstance(node, ast.ExceptHandler):
+                    self.assertIn(node.type.id, own, name)
+                if isinstance(node, ast.Raise):
+                    self.assertIn(node.exc.func.id, own, name)
+
+    def test_decorators(self):
+        for name, tree in self.trees.items():
+            for node in ast.walk(tree):
+                if isinstance(node, (ast.FunctionDef, ast.ClassDef)):
+                    for decorator in node.decorator_list:
+                        self.assertIn(decorator.id, ["property", "staticmethod", "classmethod"], name)
+
+
+if __name__ == "__main__":
+    unittest.main()
