@@ -100,6 +100,9 @@ class IsTitleAndIsText(unittest.TestCase):
                 with self.subTest(f"{length} times {sign!r}"):
                     self.assertIs(is_title(sign * length), length <= 60)
                     self.assertIs(is_text(sign * length), 1 <= length <= 400)
+            with self.subTest(f"{length} tabs"):
+                self.assertIs(is_title("\t" * length), length == 0)
+                self.assertIs(is_text("\t" * length), False)
             with self.subTest(f"{length} newlines"):
                 self.assertIs(is_title("\n" * length), length == 0)
                 self.assertIs(is_text("\n" * length), 1 <= length <= 400)
