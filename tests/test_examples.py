@@ -76,6 +76,47 @@ ARCHIVE = """
 ([('bert', 2)], 72, 72)
 """
 
+ROLL = """
+>>> from lettersonce.letters import Letter
+>>> from lettersonce.roll import roll_of
+>>> first = Letter("anna", 1, 1, (("anna", 1),), ("found", "tea", ("bert",)))
+>>> second = Letter("anna", 2, 4, (("anna", 2), ("bert", 2)), ("cut", "bert"))
+>>> roll = roll_of("anna", {"anna": [first, second]})
+>>> roll.members(), roll.cuts(), roll.keeper
+(['anna'], {'bert': 2}, 'anna')
+>>> roll.counts(("bert", 2)), roll.counts(("bert", 3))
+(True, False)
+"""
+
+LEDGER = """
+>>> from lettersonce.ledger import Ledger
+>>> from lettersonce.letters import Letter
+>>> first = Letter("anna", 1, 1, (("anna", 1),), ("found", "tea", ("bert",)))
+>>> ledger = Ledger(first)
+>>> reply = Letter("bert", 2, 3, (("anna", 1), ("bert", 2)), ("say", "me too"))
+>>> ledger.take(reply), ledger.waiting()
+([], [('bert', 2)])
+>>> ledger.take(Letter("bert", 1, 2, (("anna", 1), ("bert", 1)), ("say", "here")))
+[('bert', 1), ('bert', 2)]
+>>> ledger.next_letter("anna", ("seen",)).value()
+('anna', 2, 4, (('anna', 2), ('bert', 2)), ('seen',))
+"""
+
+SETTLING = """
+>>> from lettersonce.ledger import Ledger
+>>> from lettersonce.letters import Letter
+>>> from lettersonce.settling import settled, tail
+>>> ledger = Ledger(Letter("anna", 1, 1, (("anna", 1),), ("found", "tea", ("bert",))))
+>>> ledger.take(Letter("anna", 2, 2, (("anna", 2),), ("say", "who comes?")))
+[('anna', 2)]
+>>> [letter.ref for letter in settled(ledger)], [letter.ref for letter in tail(ledger)]
+([('anna', 1)], [('anna', 2)])
+>>> ledger.take(Letter("bert", 1, 3, (("anna", 2), ("bert", 1)), ("say", "I do")))
+[('bert', 1)]
+>>> [letter.ref for letter in settled(ledger)], [letter.ref for letter in tail(ledger)]
+([('anna', 1), ('anna', 2)], [('bert', 1)])
+"""
+
 
 class Examples(unittest.TestCase):
     def assert_holds(self, text):
@@ -105,6 +146,15 @@ class Examples(unittest.TestCase):
 
     def test_archive(self):
         self.assert_holds(ARCHIVE)
+
+    def test_roll(self):
+        self.assert_holds(ROLL)
+
+    def test_ledger(self):
+        self.assert_holds(LEDGER)
+
+    def test_settling(self):
+        self.assert_holds(SETTLING)
 
 
 if __name__ == "__main__":

@@ -16,6 +16,9 @@ FUNCTIONS = {
     "headers": {"header_lines": ["letter"], "read_headers": ["lines", "text"]},
     "mail": {"mail_lines": ["letter"], "read_mail": ["lines", "at"]},
     "archive": {"archive": ["letters"], "read_archive": ["text"], "read_beginning": ["text"]},
+    "roll": {"roll_of": ["founder", "rows"]},
+    "covers": {"seen_by": ["ledger", "name", "ref"], "seen_by_all": ["ledger", "ref"]},
+    "settling": {"settled": ["ledger"], "tail": ["ledger"]},
 }
 CLASSES = {
     "errors": {name: {} for name in ["RoomError", "BadBody", "BadLetter", "BadMail", "BadValue", "Contradiction", "Down",
@@ -23,8 +26,14 @@ CLASSES = {
     "letters": {"Letter": {"__init__": ["self", "author", "number", "stamp", "seen", "body"], "ref": ["self"],
                            "key": ["self"], "count": ["self", "name"], "has_seen": ["self", "ref"], "value": ["self"],
                            "from_value": ["value"]}},
+    "roll": {"Roll": {"members": ["self"], "cuts": ["self"], "is_known": ["self", "name"], "is_member": ["self", "name"],
+                      "came_by": ["self", "name"], "limit": ["self", "name"], "counts": ["self", "ref"]}},
+    "ledger": {"Ledger": {"__init__": ["self", "founding"], "roll": ["self"], "top": ["self"], "held": ["self", "name"],
+                          "authors": ["self"], "counts": ["self"], "letter": ["self", "ref"], "letters": ["self"],
+                          "__len__": ["self"], "__iter__": ["self"], "waiting": ["self"], "take": ["self", "letter"],
+                          "next_letter": ["self", "author", "body"]}},
 }
-DECORATORS = {"ref": "property", "key": "property", "from_value": "staticmethod"}
+DECORATORS = {"ref": "property", "key": "property", "from_value": "staticmethod", "roll": "property", "top": "property"}
 
 
 def definitions(nodes, kind):

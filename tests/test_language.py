@@ -7,13 +7,13 @@ import unittest
 
 PACKAGE = pathlib.Path(__file__).resolve().parent.parent / "lettersonce"
 BUILTINS = """len range enumerate zip min max sum abs sorted reversed int str bool list tuple dict set isinstance ord repr any
-all divmod ValueError TypeError KeyError IndexError LookupError type property staticmethod classmethod""".split()
+all divmod iter ValueError TypeError KeyError IndexError LookupError type property staticmethod classmethod""".split()
 EVERY_BUILTIN = set(dir(__import__("builtins")))
 STATEMENTS = (ast.FunctionDef, ast.ClassDef, ast.Assign, ast.AugAssign, ast.If, ast.While, ast.For, ast.Return, ast.Break,
               ast.Continue, ast.Pass, ast.Raise, ast.Assert, ast.Delete, ast.Try, ast.Expr, ast.ImportFrom)
 BARRED = """register mro elements open input law version_info with_traceback add_note attrgetter breakpoint builtins compile
 copyright credits delattr dir eval exec exit gc getattr globals hasattr help id importlib license locals methodcaller os quit
-setattr super vars sys map filter format print iter next round hash""".split()
+setattr super vars sys map filter format print next round hash""".split()
 
 
 def names_of(tree):
@@ -113,7 +113,7 @@ class Language(unittest.TestCase):
     def test_names(self):
         for name, tree in self.trees.items():
             for word in names_of(tree):
-                self.assertRegex(word, "^(_|_?[a-zA-Z][a-zA-Z0-9_]*|__init__)$", name)
+                self.assertRegex(word, "^(_|_?[a-zA-Z][a-zA-Z0-9_]*|__(init|len|iter|contains)__)$", name)
             self.assert_nowhere([(name, node.attr) for node in ast.walk(tree) if isinstance(node, ast.Attribute)
                                  and not re.fullmatch("_?[a-z][a-z0-9_]*", node.attr)])
 
@@ -144,6 +144,26 @@ class Language(unittest.TestCase):
                     self.assertIn(node.type.id, own, name)
                 if isinstance(node, ast.Raise):
                     self.assertIn(node.exc.func.id, own, name)
+
+    def test_methods_with_double_underscores(self):
+        forms = {"__len__": "return len(self._", "__iter__": "return iter(self._"}
+        for name, tree in self.trees.items():
+            for node in ast.walk(tree):
+                if isinstance(node, ast.FunctionDef) and node.name in forms:
+                    with self.subTest(f"{name}, line {node.lineno}"):
+                        self.assertEqual(len(node.body), 1)
+                        self.assertTrue(ast.unparse(node.body[0]).startswith(forms[node.name]))
+                if isinstance(node, ast.Call) and isinstance(node.func, ast.Name) and node.func.id == "iter":
+                    self.assertIn("return " + ast.unparse(node), self.texts[name])
+
+    def test_properties_and_questions_change_nothing(self):
+        for name, tree in self.trees.items():
+            for function in [node for node in ast.walk(tree) if isinstance(node, ast.FunctionDef)]:
+                words = [word.id for word in function.decorator_list]
+                if "property" in words or function.name in ("__contains__", "__len__", "__iter__"):
+                    self.assert_nowhere([(name, node.lineno) for node in ast.walk(function)
+                                         if isinstance(node, (ast.Attribute, ast.Subscript))
+                                         and isinstance(node.ctx, (ast.Store, ast.Del))])
 
     def test_decorators(self):
         for name, tree in self.trees.items():
