@@ -22,6 +22,14 @@ def letter(author, number, stamp, body=("seen",), **counts):
     return Letter(author, number, stamp, tuple(sorted(counts.items())), body)
 
 
+def ledger_of(*letters):
+    """Return a ledger that has taken these letters, the founding letter first."""
+    ledger = Ledger(letters[0])
+    for row in letters[1:]:
+        ledger.take(row)
+    return ledger
+
+
 def refs(letters):
     return [row.ref for row in letters]
 
@@ -214,6 +222,22 @@ def plain_settled(ledger):
     return counting_ones, []
 
 
+def some_body(chance, ledger, name, people, acts):
+    """Return a body with which a member may write a letter now; acts is how often a keeper acts."""
+    roll = ledger.roll
+    ref = chance.choice(ledger.letters()).ref
+    if name == roll.keeper and chance.random() < acts:
+        others = [other for other in roll.members() if other != name]
+        bodies = [("add", other) for other in people if not roll.is_known(other)]
+        bodies += [("hand", other) for other in others] + [("cut", other) for other in others[1:]]
+        if bodies:
+            return chance.choice(bodies)
+    return chance.choice([
+        ("say", "hello"), ("reply", ref, "yes"), ("edit", ref, "no"), ("recall", ref),
+        ("mark", ref, chance.choice(WORDS)), ("title", "coffee"), ("seen",),
+    ])
+
+
 class HonestRoom:
     """A room of people who write honest letters, each for a ledger of their own."""
 
@@ -234,19 +258,7 @@ class HonestRoom:
 
     def body(self, name):
         """Return a body with which this member may write a letter now."""
-        ledger = self.ledgers[name]
-        roll = ledger.roll
-        ref = self.chance.choice(ledger.letters()).ref
-        if name == roll.keeper and self.chance.random() < self.acts:
-            others = [other for other in roll.members() if other != name]
-            bodies = [("add", other) for other in self.people if not roll.is_known(other)]
-            bodies += [("hand", other) for other in others] + [("cut", other) for other in others[1:]]
-            if bodies:
-                return self.chance.choice(bodies)
-        return self.chance.choice([
-            ("say", "hello"), ("reply", ref, "yes"), ("edit", ref, "no"), ("recall", ref),
-            ("mark", ref, self.chance.choice(WORDS)), ("title", "coffee"), ("seen",),
-        ])
+        return some_body(self.chance, self.ledgers[name], name, self.people, self.acts)
 
     def send(self, sender, receiver, share=1.0):
         """Let one ledger take a share of what another one holds, in any order."""

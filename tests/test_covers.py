@@ -4,17 +4,9 @@ import unittest
 
 from lettersonce.covers import seen_by, seen_by_all
 from lettersonce.errors import Unknown
-from lettersonce.ledger import Ledger
 
-from rooms import NAMES, HonestRoom, founding, letter, odd_rows, plain_seen_by, state
+from rooms import NAMES, HonestRoom, founding, ledger_of, letter, odd_rows, plain_seen_by, state
 from samples import GREATEST
-
-
-def ledger_of(*letters):
-    ledger = Ledger(letters[0])
-    for row in letters[1:]:
-        ledger.take(row)
-    return ledger
 
 
 class Covers(unittest.TestCase):

@@ -1,6 +1,7 @@
 """The examples of the interface, word for word."""
 
 import doctest
+import pathlib
 import unittest
 
 NAMES = """
@@ -117,8 +118,68 @@ SETTLING = """
 ([('anna', 1), ('anna', 2)], [('bert', 1)])
 """
 
+ENTRY = """
+>>> from lettersonce.diary import entry
+>>> from lettersonce.letters import Letter
+>>> entry(("anna", "tea"), Letter("bert", 1, 2, (("anna", 1), ("bert", 1)), ("say", "hello\\n\\nyou")))
+'Room: anna tea\\nFrom: bert 1\\nStamp: 2\\nSeen: anna 1, bert 1\\nKind: say\\nLines: 3\\n\\n|hello\\n|\\n|you\\n.\\n'
+"""
+
+READ_DIARY = """
+>>> from lettersonce.diary import entry, read_diary
+>>> from lettersonce.letters import Letter
+>>> whole = entry(("anna", "tea"), Letter("anna", 1, 1, (("anna", 1),), ("found", "Tea", ())))
+>>> len(whole)
+86
+>>> entries, length = read_diary(whole + whole[:-1])
+>>> length, len(entries), entries[0][0], entries[0][1].ref
+(86, 1, ('anna', 'tea'), ('anna', 1))
+"""
+
+DESK = """
+>>> from lettersonce.desk import Desk
+>>> anna = Desk("anna")
+>>> bert = Desk("bert")
+>>> room = anna.found("tea", "Tea at four", ("bert",))
+>>> anna.write(room, ("say", "who comes?"))
+('anna', 2)
+>>> answers = anna.handle("bert", ("have", room, bert.have(room)))
+>>> [(receiver, parcel[0], len(parcel[2])) for receiver, parcel in answers]
+[('bert', 'letters', 2)]
+>>> bert.handle("anna", answers[0][1])
+[]
+>>> bert.have(room), bert.saved
+((('anna', 2),), 0)
+>>> bert.write(room, ("say", "I do"))
+('bert', 1)
+>>> bert.saved == len(bert.diary)
+True
+>>> [letter.ref for letter in bert.history(room)], [letter.ref for letter in bert.tail(room)]
+([('anna', 1), ('anna', 2)], [('bert', 1)])
+"""
+
+PARCELS = """
+>>> from lettersonce.parcels import is_parcel
+>>> is_parcel(("have", ("anna", "tea"), (("anna", 2), ("bert", 1))))
+True
+>>> is_parcel(("have", ("anna", "tea"), (("bert", 1), ("anna", 2))))
+False
+>>> is_parcel(("letters", ("anna", "tea"), ()))
+False
+"""
+
 
 class Examples(unittest.TestCase):
+    def test_they_stand_in_the_document_word_for_word(self):
+        document = pathlib.Path(__file__).resolve().parent.parent.parent / "shared" / "DOC.md"
+        if not document.is_file():
+            self.skipTest("the document is not here")
+        told = document.read_text(encoding="utf-8")
+        texts = [text for name, text in globals().items() if name.isupper() and type(text) is str]
+        self.assertGreaterEqual(len(texts), 14)
+        for text in texts:
+            self.assertIn("```" + text + "```", told)
+
     def assert_holds(self, text):
         example = doctest.DocTestParser().get_doctest(text, {}, "example", None, None)
         told = []
@@ -155,6 +216,18 @@ class Examples(unittest.TestCase):
 
     def test_settling(self):
         self.assert_holds(SETTLING)
+
+    def test_entry(self):
+        self.assert_holds(ENTRY)
+
+    def test_read_diary(self):
+        self.assert_holds(READ_DIARY)
+
+    def test_desk(self):
+        self.assert_holds(DESK)
+
+    def test_parcels(self):
+        self.assert_holds(PARCELS)
 
 
 if __name__ == "__main__":

@@ -19,6 +19,8 @@ FUNCTIONS = {
     "roll": {"roll_of": ["founder", "rows"]},
     "covers": {"seen_by": ["ledger", "name", "ref"], "seen_by_all": ["ledger", "ref"]},
     "settling": {"settled": ["ledger"], "tail": ["ledger"]},
+    "diary": {"entry": ["room", "letter"], "read_diary": ["text"]},
+    "parcels": {"is_parcel": ["thing"]},
 }
 CLASSES = {
     "errors": {name: {} for name in ["RoomError", "BadBody", "BadLetter", "BadMail", "BadValue", "Contradiction", "Down",
@@ -32,8 +34,16 @@ CLASSES = {
                           "authors": ["self"], "counts": ["self"], "letter": ["self", "ref"], "letters": ["self"],
                           "__len__": ["self"], "__iter__": ["self"], "waiting": ["self"], "take": ["self", "letter"],
                           "next_letter": ["self", "author", "body"]}},
+    "history": {"History": {"__init__": ["self"], "renew": ["self", "ledger"], "letters": ["self"], "__len__": ["self"],
+                            "__iter__": ["self"]}},
+    "desk": {"Desk": {"__init__": ["self", "name", "diary"], "diary": ["self"], "saved": ["self"],
+                      "found": ["self", "word", "title", "members"], "write": ["self", "room", "body"],
+                      "take": ["self", "room", "letter"], "save": ["self"], "rooms": ["self"], "ledger": ["self", "room"],
+                      "history": ["self", "room"], "tail": ["self", "room"], "have": ["self", "room"],
+                      "lacking": ["self", "room", "counts"], "handle": ["self", "sender", "parcel"]}},
 }
-DECORATORS = {"ref": "property", "key": "property", "from_value": "staticmethod", "roll": "property", "top": "property"}
+DECORATORS = {"ref": "property", "key": "property", "from_value": "staticmethod", "roll": "property", "top": "property",
+              "diary": "property", "saved": "property"}
 
 
 def definitions(nodes, kind):
@@ -41,7 +51,7 @@ def definitions(nodes, kind):
 
 
 def arguments(node):
-    return [argument.arg for argument in node.args.posonlyargs + node.args.args]
+    return [argument.arg for argument in node.args.posonlyargs + node.args.args + node.args.kwonlyargs]
 
 
 class Interface(unittest.TestCase):

@@ -8,17 +8,9 @@ from lettersonce.ledger import Ledger
 from lettersonce.letters import Letter, is_letter
 from lettersonce.roll import Roll, roll_of
 
-from rooms import (NAMES, HonestRoom, PlainLedger, counting, founding, honest_letters, letter, odd_rows, refs, roll_state, state,
-                   values)
+from rooms import (NAMES, HonestRoom, PlainLedger, counting, founding, honest_letters, ledger_of, letter, odd_rows, refs, roll_state,
+                   state, values)
 from samples import BODIES, GREATEST, odd_things
-
-
-def ledger_of(*letters):
-    """Return a ledger that has taken these letters, the founding letter first."""
-    ledger = Ledger(letters[0])
-    for row in letters[1:]:
-        ledger.take(row)
-    return ledger
 
 
 def orders(letters, many, seed=0):

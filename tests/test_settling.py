@@ -8,14 +8,7 @@ from lettersonce.ledger import Ledger
 from lettersonce.letters import Letter, by_key
 from lettersonce.settling import settled, tail
 
-from rooms import NAMES, HonestRoom, founding, letter, odd_rows, plain_settled, refs, state, values
-
-
-def ledger_of(*letters):
-    ledger = Ledger(letters[0])
-    for row in letters[1:]:
-        ledger.take(row)
-    return ledger
+from rooms import NAMES, HonestRoom, founding, ledger_of, letter, odd_rows, plain_settled, refs, state, values
 
 
 class Settling(unittest.TestCase):
