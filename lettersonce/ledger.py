@@ -119,7 +119,7 @@ class Ledger:
     def _next_to_hold(self):
         """Return the waiting letter that is to be held next, None if none can be held."""
         # Of each author only one letter can be the next, however many wait.
-        refs = [(name, self.held(name) + 1) for name in self._roll.people()]
+        refs = [(name, self.held(name) + 1) for name in self._roll.known()]
         nexts = [self._waiting[ref] for ref in refs if ref in self._waiting]
         ready = by_key([letter for letter in nexts if self._can_be_next(letter)])
         return ready[0] if ready else None

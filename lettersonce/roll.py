@@ -14,7 +14,7 @@ class Roll:
         self._came = dict(came)
         self._limits = dict(limits)
 
-    def people(self):
+    def known(self):
         """Return the list of the names of all who are known, in the order in which they came."""
         return list(self._came)
 

@@ -168,6 +168,42 @@ False
 False
 """
 
+POST = """
+>>> from lettersonce.post import Post
+>>> post = Post()
+>>> post.put("bert", "anna", ("have", ("anna", "tea"), ()))
+1
+>>> post.put("carl", "anna", ("have", ("anna", "tea"), (("anna", 1),)))
+2
+>>> post.lose(1)
+>>> post.parcel(2), post.numbers(), len(post), post.sent
+(('carl', 'anna', ('have', ('anna', 'tea'), (('anna', 1),))), [2], 1, 2)
+"""
+
+SCENARIO = """
+>>> from lettersonce.scenario import run
+>>> from lettersonce.town import Town
+>>> town = Town(["anna", "bert"])
+>>> room = ("anna", "tea")
+>>> run(town, [("found", "anna", "tea", "Tea at four", ("bert",)), ("ask", "bert", "anna", room), ("deliver", 1), ("deliver", 2)])
+[('done', ('anna', 'tea')), ('done', 1), ('done', [2]), ('done', [])]
+>>> run(town, [("write", "bert", room, ("add", "carl")), ("stop", "bert", 0), ("write", "bert", room, ("seen",)), ("fly",)])
+[('refused', 'NotKeeper'), ('done', None), ('refused', 'Down'), ('refused', 'BadValue')]
+"""
+
+MEETING = """
+>>> from lettersonce.meeting import meet
+>>> from lettersonce.town import Town
+>>> town = Town(["anna", "bert"])
+>>> room = town.found("anna", "tea", "Tea at four", ("bert",))
+>>> town.write("anna", room, ("say", "who comes?"))
+('anna', 2)
+>>> meet(town, room)
+10
+>>> [letter.ref for letter in town.desk("bert").history(room)]
+[('anna', 1), ('anna', 2)]
+"""
+
 
 class Examples(unittest.TestCase):
     def test_they_stand_in_the_document_word_for_word(self):
@@ -176,7 +212,7 @@ class Examples(unittest.TestCase):
             self.skipTest("the document is not here")
         told = document.read_text(encoding="utf-8")
         texts = [text for name, text in globals().items() if name.isupper() and type(text) is str]
-        self.assertGreaterEqual(len(texts), 14)
+        self.assertGreaterEqual(len(texts), 17)
         for text in texts:
             self.assertIn("```" + text + "```", told)
 
@@ -228,6 +264,15 @@ class Examples(unittest.TestCase):
 
     def test_parcels(self):
         self.assert_holds(PARCELS)
+
+    def test_post(self):
+        self.assert_holds(POST)
+
+    def test_scenario(self):
+        self.assert_holds(SCENARIO)
+
+    def test_meeting(self):
+        self.assert_holds(MEETING)
 
 
 if __name__ == "__main__":

@@ -21,6 +21,8 @@ FUNCTIONS = {
     "settling": {"settled": ["ledger"], "tail": ["ledger"]},
     "diary": {"entry": ["room", "letter"], "read_diary": ["text"]},
     "parcels": {"is_parcel": ["thing"]},
+    "scenario": {"perform": ["town", "deed"], "run": ["town", "deeds"]},
+    "meeting": {"meet": ["town", "room"]},
 }
 CLASSES = {
     "errors": {name: {} for name in ["RoomError", "BadBody", "BadLetter", "BadMail", "BadValue", "Contradiction", "Down",
@@ -41,6 +43,13 @@ CLASSES = {
                       "take": ["self", "room", "letter"], "save": ["self"], "rooms": ["self"], "ledger": ["self", "room"],
                       "history": ["self", "room"], "tail": ["self", "room"], "have": ["self", "room"],
                       "lacking": ["self", "room", "counts"], "handle": ["self", "sender", "parcel"]}},
+    "post": {"Post": {"__init__": ["self"], "put": ["self", "sender", "receiver", "parcel"], "parcel": ["self", "number"],
+                      "lose": ["self", "number"], "numbers": ["self"], "__len__": ["self"], "__iter__": ["self"]}},
+    "town": {"Town": {"__init__": ["self", "names"], "is_up": ["self", "name"], "desk": ["self", "name"],
+                      "kept": ["self", "name"], "found": ["self", "name", "word", "title", "members"],
+                      "write": ["self", "name", "room", "body"], "save": ["self", "name"],
+                      "ask": ["self", "name", "other", "room"], "deliver": ["self", "number"], "lose": ["self", "number"],
+                      "stop": ["self", "name", "keep"], "start": ["self", "name"]}},
 }
 DECORATORS = {"ref": "property", "key": "property", "from_value": "staticmethod", "roll": "property", "top": "property",
               "diary": "property", "saved": "property"}

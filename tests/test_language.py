@@ -118,7 +118,18 @@ class Language(unittest.TestCase):
             for word in names_of(tree):
                 self.assertRegex(word, "^(_|_?[a-zA-Z][a-zA-Z0-9_]*|__(init|len|iter|contains)__)$", name)
             self.assert_nowhere([(name, node.attr) for node in ast.walk(tree) if isinstance(node, ast.Attribute)
-                                 and not re.fullmatch("_?[a-z][a-z0-9_]*", node.attr)])
+                                 and not re.fullmatch("_?[a-z][a-z0-9_]*", node.attr)
+                                 and not re.fullmatch("type[(][a-z]+[)].__name__", ast.unparse(node))])
+
+    def test_no_name_is_a_method_and_an_attribute(self):
+        methods, attributes = set(), set()
+        for tree in self.trees.values():
+            for node in ast.walk(tree):
+                if isinstance(node, ast.ClassDef):
+                    methods |= {part.name for part in node.body if isinstance(part, ast.FunctionDef)}
+                if isinstance(node, ast.Attribute) and isinstance(node.ctx, ast.Store):
+                    attributes.add(node.attr)
+        self.assertEqual(methods & attributes, set())
 
     def test_nothing_inside_a_function_hides_another_name(self):
         for name, tree in self.trees.items():
