@@ -5,7 +5,8 @@ def meet(town, room):
     """Hold a meeting for a room; return how many parcels were delivered."""
     for name in town.people:
         town.start(name)
-    for number in town.post.numbers():
+    numbers = town.post.numbers()
+    for number in numbers:
         town.lose(number)
     many = _exchange(town, room)
     # These letters show each member what all the others have seen.

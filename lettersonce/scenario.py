@@ -1,28 +1,12 @@
 """Scenarios: lists of deeds that are done in a town."""
 
-from lettersonce.errors import RoomError
-
-# How many items the deed of each word has, the word included.
-LENGTHS = {
-    "found": 5,
-    "write": 4,
-    "save": 2,
-    "ask": 4,
-    "deliver": 2,
-    "lose": 2,
-    "stop": 3,
-    "start": 2,
-}
+from lettersonce.errors import BadValue, RoomError
 
 
 def perform(town, deed):
     """Do a deed in a town and return its outcome. The first item of the deed may be any object."""
-    if not _is_deed(deed):
-        return ("refused", "BadValue")
-    method = _method_of(town, deed[0])
-    arguments = deed[1:]
     try:
-        return ("done", method(*arguments))
+        return ("done", _do(town, deed))
     except RoomError as error:
         return ("refused", type(error).__name__)
 
@@ -32,24 +16,27 @@ def run(town, deeds):
     return [perform(town, deed) for deed in deeds]
 
 
-def _is_deed(deed):
-    """Return True if a tuple has one of the words, and the length that goes with it."""
-    # Only a string may be looked up: another object may have no hash.
+def _do(town, deed):
+    """Do a deed and return what the method of the town returns. Raises BadValue for what is no deed."""
+    # Only a string may be compared: an object of another class may run code of its own.
     if len(deed) == 0 or type(deed[0]) != str:
-        return False
-    return LENGTHS.get(deed[0], 0) == len(deed)
-
-
-def _method_of(town, word):
-    """Return the method of a town that does the deeds of a word."""
-    methods = {
-        "found": town.found,
-        "write": town.write,
-        "save": town.save,
-        "ask": town.ask,
-        "deliver": town.deliver,
-        "lose": town.lose,
-        "stop": town.stop,
-        "start": town.start,
-    }
-    return methods[word]
+        raise BadValue("a deed begins with a word")
+    match deed:
+        case ("found", name, word, title, members):
+            return town.found(name, word, title, members)
+        case ("write", name, room, body):
+            return town.write(name, room, body)
+        case ("save", name):
+            return town.save(name)
+        case ("ask", name, other, room):
+            return town.ask(name, other, room)
+        case ("deliver", number):
+            return town.deliver(number)
+        case ("lose", number):
+            return town.lose(number)
+        case ("stop", name, keep):
+            return town.stop(name, keep)
+        case ("start", name):
+            return town.start(name)
+        case _:
+            raise BadValue("there is no deed of this word and this length")

@@ -204,6 +204,34 @@ MEETING = """
 [('anna', 1), ('anna', 2)]
 """
 
+BOARD = """
+>>> from lettersonce.board import board_of
+>>> from lettersonce.letters import Letter
+>>> first = Letter("anna", 1, 1, (("anna", 1),), ("found", "tea", ("bert",)))
+>>> second = Letter("anna", 2, 2, (("anna", 2),), ("say", "who comes?"))
+>>> third = Letter("bert", 1, 3, (("anna", 2), ("bert", 1)), ("mark", ("anna", 2), "me"))
+>>> board = board_of([first, second, third])
+>>> board.title, [item.text for item in board], board.item(("anna", 2)).marks()
+('tea', ['who comes?'], [('me', ('bert',))])
+"""
+
+SEARCH = """
+>>> from lettersonce.search import words_of
+>>> words_of("Tea at 4, tea!")
+['4', 'at', 'tea']
+"""
+
+EXAM = """
+>>> from lettersonce.exam import exam
+>>> from lettersonce.letters import Letter
+>>> first = Letter("anna", 1, 1, (("anna", 1),), ("found", "tea", ("bert",)))
+>>> second = Letter("anna", 2, 2, (("anna", 2),), ("say", "who comes?"))
+>>> exam([[first, second], [first]])
+[]
+>>> exam([[first, second], [second]])
+[('gap', 1, 0)]
+"""
+
 
 class Examples(unittest.TestCase):
     def test_they_stand_in_the_document_word_for_word(self):
@@ -212,7 +240,7 @@ class Examples(unittest.TestCase):
             self.skipTest("the document is not here")
         told = document.read_text(encoding="utf-8")
         texts = [text for name, text in globals().items() if name.isupper() and type(text) is str]
-        self.assertGreaterEqual(len(texts), 17)
+        self.assertEqual(len(texts), told.count("```") // 2)
         for text in texts:
             self.assertIn("```" + text + "```", told)
 
@@ -273,6 +301,15 @@ class Examples(unittest.TestCase):
 
     def test_meeting(self):
         self.assert_holds(MEETING)
+
+    def test_board(self):
+        self.assert_holds(BOARD)
+
+    def test_search(self):
+        self.assert_holds(SEARCH)
+
+    def test_exam(self):
+        self.assert_holds(EXAM)
 
 
 if __name__ == "__main__":

@@ -23,6 +23,10 @@ FUNCTIONS = {
     "parcels": {"is_parcel": ["thing"]},
     "scenario": {"perform": ["town", "deed"], "run": ["town", "deeds"]},
     "meeting": {"meet": ["town", "room"]},
+    "board": {"board_of": ["letters"]},
+    "threads": {"walk": ["board"], "replies": ["board", "ref"], "below": ["board", "ref"], "path": ["board", "ref"]},
+    "search": {"words_of": ["text"], "plain_find": ["boards", "query"]},
+    "exam": {"exam": ["histories"]},
 }
 CLASSES = {
     "errors": {name: {} for name in ["RoomError", "BadBody", "BadLetter", "BadMail", "BadValue", "Contradiction", "Down",
@@ -50,6 +54,12 @@ CLASSES = {
                       "write": ["self", "name", "room", "body"], "save": ["self", "name"],
                       "ask": ["self", "name", "other", "room"], "deliver": ["self", "number"], "lose": ["self", "number"],
                       "stop": ["self", "name", "keep"], "start": ["self", "name"]}},
+    "board": {"Item": {"ref": ["self"], "marks": ["self"]},
+              "Board": {"item": ["self", "ref"], "__contains__": ["self", "ref"], "__len__": ["self"], "__iter__": ["self"],
+                        "notices": ["self"]}},
+    "inbox": {"Inbox": {"__init__": ["self", "name"], "mark_read": ["self", "room", "count"], "read": ["self", "room"],
+                        "unread": ["self", "room", "letters"], "mentions": ["self", "room", "letters"]}},
+    "search": {"Index": {"__init__": ["self", "boards"], "find": ["self", "query"]}},
 }
 DECORATORS = {"ref": "property", "key": "property", "from_value": "staticmethod", "roll": "property", "top": "property",
               "diary": "property", "saved": "property"}

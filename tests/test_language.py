@@ -10,7 +10,7 @@ BUILTINS = """len range enumerate zip min max sum abs sorted reversed int str bo
 all divmod iter ValueError TypeError KeyError IndexError LookupError type property staticmethod classmethod""".split()
 EVERY_BUILTIN = set(dir(__import__("builtins")))
 STATEMENTS = (ast.FunctionDef, ast.ClassDef, ast.Assign, ast.AugAssign, ast.If, ast.While, ast.For, ast.Return, ast.Break,
-              ast.Continue, ast.Pass, ast.Raise, ast.Assert, ast.Delete, ast.Try, ast.Expr, ast.ImportFrom)
+              ast.Continue, ast.Pass, ast.Raise, ast.Assert, ast.Delete, ast.Try, ast.Match, ast.Expr, ast.ImportFrom)
 BARRED = """register mro elements open input law version_info with_traceback add_note attrgetter breakpoint builtins compile
 copyright credits delattr dir eval exec exit gc getattr globals hasattr help id importlib license locals methodcaller os quit
 setattr super vars sys map filter format print next round hash""".split()
@@ -28,13 +28,19 @@ def names_of(tree):
             names.append(node.arg)
         if isinstance(node, ast.alias):
             names.append(node.asname or node.name)
-    return names
+    return names + captured(tree)
+
+
+def captured(tree):
+    """Return the names that the cases of a match capture."""
+    return [node.name for node in ast.walk(tree) if isinstance(node, (ast.MatchAs, ast.MatchStar)) and node.name is not None]
 
 
 def bound_inside(function):
     """Return the parameters and local variables of a function."""
     names = [node.arg for node in ast.walk(function) if isinstance(node, ast.arg)]
-    return names + [node.id for node in ast.walk(function) if isinstance(node, ast.Name) and isinstance(node.ctx, ast.Store)]
+    names += [node.id for node in ast.walk(function) if isinstance(node, ast.Name) and isinstance(node.ctx, ast.Store)]
+    return names + captured(function)
 
 
 class Language(unittest.TestCase):
@@ -179,6 +185,23 @@ class Language(unittest.TestCase):
                     self.assert_nowhere([(name, node.lineno) for node in ast.walk(function)
                                          if isinstance(node, (ast.Attribute, ast.Subscript))
                                          and isinstance(node.ctx, (ast.Store, ast.Del))])
+
+    def test_functions_that_yield(self):
+        functions = [node for tree in self.trees.values() for node in ast.walk(tree) if isinstance(node, ast.FunctionDef)]
+        words = [node.name for node in functions]
+        for function in functions:
+            yields = [node for node in ast.walk(function) if isinstance(node, (ast.Yield, ast.YieldFrom))]
+            statements = [node.value for node in ast.walk(function) if isinstance(node, ast.Expr)]
+            if yields:
+                self.assertEqual(words.count(function.name), 1)
+                self.assertTrue(all([node in statements for node in yields]), function.name)
+                self.assertEqual(function.decorator_list, [])
+
+    def test_captured_names_are_not_parameters(self):
+        for name, tree in self.trees.items():
+            for function in [node for node in ast.walk(tree) if isinstance(node, ast.FunctionDef)]:
+                arguments = [node.arg for node in ast.walk(function) if isinstance(node, ast.arg)]
+                self.assert_nowhere([(name, word) for word in captured(function) if word in arguments])
 
     def test_decorators(self):
         for name, tree in self.trees.items():

@@ -134,8 +134,6 @@ class Performing(Scenarios):
         class Refusing:
             """A town whose desk raises what it is told to raise."""
 
-            found = write = ask = deliver = lose = stop = start = None
-
             def save(self, name):
                 raise getattr(errors, name)("a reason")
 

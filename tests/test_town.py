@@ -187,8 +187,8 @@ class Sending(Towns):
         self.town.write("anna", ROOM, ("say", "hello"))
         before = town_state(self.town)
         sent = before["sent"]
-        asked = [("anna", "bert", (("anna", 2),)), ("bert", "anna", (("anna", 1),)), ("carl", "anna", ()), ("anna", "anna", (("anna", 2),)),
-                 ("carl", "carl", ())]
+        asked = [("anna", "bert", (("anna", 2),)), ("bert", "anna", (("anna", 1),)), ("carl", "anna", ()),
+                 ("anna", "anna", (("anna", 2),)), ("carl", "carl", ())]
         for number, (name, other, counts) in enumerate(asked, start=sent + 1):
             answer = self.town.ask(name, other, ROOM)
             self.assertEqual((answer, type(answer)), (number, int))
@@ -363,8 +363,8 @@ class Stopping(Towns):
             self.assertIs(self.town.desk(name), desk)
 
     def test_letters_that_waited_are_lost_by_a_stop(self):
-        value = values(self.town.desk("anna").ledger(ROOM))[2]
-        self.town.deliver(self.town.post.put("anna", "carl", ("letters", ROOM, (values(self.town.desk("anna").ledger(ROOM))[0], value))))
+        told = values(self.town.desk("anna").ledger(ROOM))
+        self.town.deliver(self.town.post.put("anna", "carl", ("letters", ROOM, (told[0], told[2]))))
         self.assertEqual(self.town.desk("carl").ledger(ROOM).waiting(), [("anna", 3)])
         self.town.stop("carl", 1000)
         self.town.start("carl")
@@ -543,7 +543,8 @@ class Together(unittest.TestCase):
                 for name in have_room(busy.town, room):
                     desk = busy.town.desk(name)
                     ledger = desk.ledger(room)
-                    self.assertEqual((values(desk.history(room)), values(desk.tail(room))), (values(settled(ledger)), values(tail(ledger))))
+                    self.assertEqual((values(desk.history(room)), values(desk.tail(room))),
+                                     (values(settled(ledger)), values(tail(ledger))))
 
     def test_letters_that_desks_hold_are_read_back_from_archives(self):
         for _, busy in self.busy_towns(10, 120, acts=0.2):
