@@ -277,20 +277,34 @@ class Sending(Towns):
         self.assert_only(before, parcels=[before["parcels"][0], before["parcels"][2]])
         self.assertEqual(self.town.ask("bert", "anna", ROOM), numbers[2] + 1)
 
-    def test_late_parcels_in_any_order(self):
-        self.town.write("anna", ROOM, ("say", "one"))
-        numbers = []
+    def test_letters_of_a_room_that_the_desk_has_lost(self):
+        asked = self.town.ask("bert", "anna", ROOM)
+        self.town.write("anna", ROOM, ("say", "two"))
+        self.town.stop("bert", 0)
+        self.town.start("bert")
+        given = self.town.deliver(asked)[0]
+        self.assertEqual([value[:2] for value in self.town.post.parcel(given)[2][2]], [("anna", 2)])
+        self.town.deliver(given)
+        self.assertEqual((self.town.desk("bert").rooms(), self.town.kept("bert")), ([], ""))
+        fetch(self.town, "bert", "anna", ROOM)
+        self.assertEqual(self.town.desk("bert").have(ROOM), (("anna", 2),))
+
+    def test_letters_that_come_too_early_wait(self):
+        self.town.save("bert")
         for text in ("two", "three"):
-            asked = self.town.ask("bert", "anna", ROOM)
-            numbers.extend(self.town.deliver(asked))
             self.town.write("anna", ROOM, ("say", text))
-        only = self.town.post.put("anna", "bert", ("letters", ROOM, (values(self.town.desk("anna").ledger(ROOM))[3],)))
-        self.town.deliver(only)
-        self.assertEqual(self.town.desk("bert").ledger(ROOM).waiting(), [("anna", 4)])
-        for number in reversed(numbers):
-            self.town.deliver(number)
-        self.assertEqual(self.town.desk("bert").have(ROOM), (("anna", 4),))
-        self.assertEqual(self.town.desk("bert").ledger(ROOM).waiting(), [])
+        late = self.town.deliver(self.town.ask("bert", "anna", ROOM))[0]
+        self.town.deliver(late)
+        asked = self.town.ask("bert", "anna", ROOM)
+        self.town.stop("bert", 0)
+        self.town.start("bert")
+        self.town.write("anna", ROOM, ("say", "four"))
+        self.town.deliver(self.town.deliver(asked)[0])
+        self.assertEqual((self.town.desk("bert").have(ROOM), self.town.desk("bert").ledger(ROOM).waiting()),
+                         ((("anna", 1),), [("anna", 4)]))
+        self.town.deliver(late)
+        self.assertEqual((self.town.desk("bert").have(ROOM), self.town.desk("bert").ledger(ROOM).waiting()), ((("anna", 4),), []))
+        self.assertEqual(refs([row for _, row in read_diary(self.town.kept("bert"))[0]]), [("anna", number) for number in (1, 2, 3, 4)])
 
     def test_what_is_returned_is_new(self):
         asked = self.town.ask("carl", "anna", ROOM)
@@ -363,12 +377,17 @@ class Stopping(Towns):
             self.assertIs(self.town.desk(name), desk)
 
     def test_letters_that_waited_are_lost_by_a_stop(self):
-        told = values(self.town.desk("anna").ledger(ROOM))
-        self.town.deliver(self.town.post.put("anna", "carl", ("letters", ROOM, (told[0], told[2]))))
-        self.assertEqual(self.town.desk("carl").ledger(ROOM).waiting(), [("anna", 3)])
-        self.town.stop("carl", 1000)
-        self.town.start("carl")
-        self.assertEqual((self.town.desk("carl").have(ROOM), self.town.desk("carl").ledger(ROOM).waiting()), ((("anna", 1),), []))
+        asked = self.town.ask("bert", "anna", ROOM)
+        self.town.stop("bert", 0)
+        self.town.start("bert")
+        self.town.write("anna", ROOM, ("say", "three"))
+        self.town.deliver(self.town.deliver(asked)[0])
+        self.assertEqual(self.town.desk("bert").ledger(ROOM).waiting(), [("anna", 4)])
+        self.town.stop("bert", 1000)
+        self.assertEqual(self.town.kept("bert"), "".join(self.parts[:2]))
+        self.town.start("bert")
+        self.assertEqual(self.town.desk("bert").have(ROOM), (("anna", 1), ("bert", 1)))
+        self.assertEqual(self.town.desk("bert").ledger(ROOM).waiting(), [])
 
     def test_several_desks_go_down_and_come_up(self):
         kept = {name: self.town.kept(name) for name in self.town.people}
