@@ -2,6 +2,8 @@
 
 from lettersonce.names import DIGITS, LETTERS
 
+CAPITALS = "ABCDEFGHIJKLMNOPQRSTUVWXYZ"
+
 
 class Index:
     """The items of some boards by the words of their texts."""
@@ -35,8 +37,9 @@ class Index:
 
 def words_of(text):
     """Return the list of the unlike words of a text, ascending."""
-    signs = [sign if sign in LETTERS or sign in DIGITS else " " for sign in text.lower()]
-    return sorted(set("".join(signs).split()))
+    # The signs are asked before they are made small: some signs beyond ASCII turn into letters by that.
+    signs = [sign if _is_of_word(sign) else " " for sign in text]
+    return sorted(set("".join(signs).lower().split()))
 
 
 def plain_find(boards, query):
@@ -45,6 +48,11 @@ def plain_find(boards, query):
     if len(words) == 0:
         return []
     return [(room, item.ref) for room, board in boards for item in board if _is_found(item, words)]
+
+
+def _is_of_word(sign):
+    """Return True if a sign is a letter, a capital letter or a digit."""
+    return sign in LETTERS or sign in CAPITALS or sign in DIGITS
 
 
 def _is_found(item, words):

@@ -59,6 +59,20 @@ class Words(unittest.TestCase):
                 self.assert_words(f"b{sign}a", ["a", "b"])
                 self.assert_words(f"{sign}a{sign}{sign}", ["a"])
 
+    def test_a_sign_beyond_ascii_that_turns_into_a_letter_parts_words(self):
+        self.assert_words("\u0130x", ["x"])
+        self.assert_words("x\u0130", ["x"])
+        self.assert_words("a\u212ab", ["a", "b"])
+        self.assert_words("TEA\u212aAT\u01304", ["4", "at", "tea"])
+        self.assert_words("\u212a \u0130", [])
+
+    def test_every_sign_beyond_the_letters_and_digits_parts_words(self):
+        signs = [chr(code) for code in range(0x110000) if not (code < 128 and chr(code).isalnum())]
+        self.assertEqual(len(signs), 0x110000 - 62)
+        self.assert_words("".join(signs), [])
+        self.assert_words("a".join(signs), ["a"])
+        self.assert_words("B".join(signs), ["b"])
+
     def test_a_word_that_stands_twice(self):
         self.assert_words("one two one ONE two", ["one", "two"])
 
@@ -114,6 +128,13 @@ class Finding(unittest.TestCase):
         for query in ("", " ", "\n\t", "?!", "-", ", ."):
             self.assert_finds(self.boards, query, [])
             self.assert_finds([], query, [])
+
+    def test_queries_with_signs_beyond_ascii(self):
+        boards = [(TEA, board_of_texts("k i", "tea k", "kit"))]
+        for query in ("\u212a", "\u0130", "\u212a\u0130", "\u212ait", "tea\u212ai"):
+            self.assert_finds(boards, query, [])
+        self.assert_finds(boards, "tea\u212ak", self.found(3))
+        self.assert_finds(boards, "\u212ak", self.found(2, 3))
 
     def test_no_boards_and_boards_without_items(self):
         self.assert_finds([], "tea", [])
